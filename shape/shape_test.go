@@ -1,0 +1,44 @@
+package shape_test
+
+import (
+	"testing"
+
+	"hoistway/api"
+	"hoistway/shape"
+)
+
+func TestValuesAndBack(t *testing.T) {
+	n := api.Node{Op: api.If, D: 1, A: 2, B: 3, Then: 4, Else: 5}
+	v := shape.Values(n)
+	if v != [shape.Fields]int{1, 2, 3, 4, 5} {
+		t.Error(v)
+	}
+	if m := shape.Node(n.Op, v); m != n {
+		t.Error(m)
+	}
+}
+
+func TestOnlyKnownOperationsHaveAShape(t *testing.T) {
+	for op := -2; op < 16; op++ {
+		kinds, ok := shape.Of(op)
+		if ok != (op >= api.Skip && op <= api.End) {
+			t.Errorf("%d: %v", op, ok)
+		}
+		if !ok && kinds != [shape.Fields]shape.Kind{} {
+			t.Errorf("%d: %v", op, kinds)
+		}
+	}
+}
+
+func TestTermsFromAddToLess(t *testing.T) {
+	for op := -2; op < 16; op++ {
+		got, ok := shape.Term(api.Node{Op: op, D: 1, A: 2, B: 3, Then: 4})
+		want := api.Term{}
+		if op >= 3 && op <= 8 {
+			want = api.Term{Op: op, A: 2, B: 3}
+		}
+		if got != want || ok != (want != api.Term{}) {
+			t.Errorf("%d: %v %v", op, got, ok)
+		}
+	}
+}
