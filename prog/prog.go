@@ -5,6 +5,7 @@ import (
 	"slices"
 
 	"hoistway/api"
+	"hoistway/links"
 	"hoistway/shape"
 )
 
@@ -39,7 +40,7 @@ func Next(p api.Prog, n int) ([]int, api.Errno) {
 	if e := checkNode(p, n); e != api.OK {
 		return nil, e
 	}
-	return exits(p.Nodes[n]), api.OK
+	return slices.Sorted(links.Exits(p.Nodes[n])), api.OK
 }
 
 // Ahead answers the nodes which may go on at node n.
@@ -47,13 +48,7 @@ func Ahead(p api.Prog, n int) ([]int, api.Errno) {
 	if e := checkNode(p, n); e != api.OK {
 		return nil, e
 	}
-	var ahead []int
-	for m, x := range p.Nodes {
-		if slices.Contains(exits(x), n) {
-			ahead = append(ahead, m)
-		}
-	}
-	return ahead, api.OK
+	return links.Ahead(p)[n], api.OK
 }
 
 // Terms answers what the nodes reckon, each term once.
@@ -102,16 +97,4 @@ func checkNode(p api.Prog, n int) api.Errno {
 		return api.ErrRange
 	}
 	return api.OK
-}
-
-func exits(x api.Node) []int {
-	var out []int
-	kinds, _ := shape.Of(x.Op)
-	for i, v := range shape.Values(x) {
-		if kinds[i] == shape.Place {
-			out = append(out, v)
-		}
-	}
-	slices.Sort(out)
-	return slices.Compact(out)
 }

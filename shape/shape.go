@@ -63,3 +63,11 @@ func Term(n api.Node) (api.Term, bool) {
 	}
 	return api.Term{Op: n.Op, A: n.A, B: n.B}, true
 }
+
+// Sets answers the register that a node sets, or false, if it sets none: a D of 0 alone does not tell.
+func Sets(n api.Node) (int, bool) {
+	if kinds, _ := Of(n.Op); kinds[D] != Register {
+		return 0, false
+	}
+	return n.D, true
+}

@@ -42,3 +42,12 @@ func TestTermsFromAddToLess(t *testing.T) {
 		}
 	}
 }
+
+func TestSetsFromSetToIn(t *testing.T) {
+	for op := -2; op < 16; op++ {
+		got, ok := shape.Sets(api.Node{Op: op, D: 7})
+		if is := op >= api.Set && op <= api.In; ok != is || is != (got == 7) || !is && got != 0 {
+			t.Errorf("%d: %d %v", op, got, ok)
+		}
+	}
+}
