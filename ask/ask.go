@@ -1,4 +1,4 @@
-// Package ask has the question that flows and facts ask of many things at once.
+// Package ask has the questions that layers ask of many things at once.
 package ask
 
 // Every asks whether something is so of each element; of no element it is.
@@ -9,4 +9,13 @@ func Every[E any](l []E, so func(E) bool) bool {
 		}
 	}
 	return true
+}
+
+// Each lists what is so of each number below n.
+func Each(n int, so func(i int) bool) []bool {
+	l := make([]bool, n)
+	for i := range l {
+		l[i] = so(i)
+	}
+	return l
 }

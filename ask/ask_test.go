@@ -1,6 +1,7 @@
 package ask_test
 
 import (
+	"slices"
 	"testing"
 
 	"hoistway/ask"
@@ -21,5 +22,14 @@ func TestEvery(t *testing.T) {
 	}
 	if !ask.Every([]string{"a", "b"}, func(s string) bool { return s != "" }) {
 		t.Error("texts are elements too")
+	}
+}
+
+func TestEach(t *testing.T) {
+	even := func(n int) bool { return n%2 == 0 }
+	for n, want := range [][]bool{{}, {true}, {true, false}, {true, false, true}} {
+		if l := ask.Each(n, even); !slices.Equal(l, want) {
+			t.Errorf("%d: %v", n, l)
+		}
 	}
 }

@@ -71,3 +71,15 @@ func Sets(n api.Node) (int, bool) {
 	}
 	return n.D, true
 }
+
+// Reckons answers whether a node reckons a term.
+func Reckons(n api.Node, t api.Term) bool {
+	u, ok := Term(n)
+	return ok && u == t
+}
+
+// Keeps answers whether a term is behind a node what it was ahead of it.
+func Keeps(n api.Node, t api.Term) bool {
+	d, ok := Sets(n)
+	return !ok || d != t.A && d != t.B
+}

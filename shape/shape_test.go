@@ -51,3 +51,29 @@ func TestSetsFromSetToIn(t *testing.T) {
 		}
 	}
 }
+
+func TestReckonsByAllThree(t *testing.T) {
+	for op := -2; op < 16; op++ {
+		n := api.Node{Op: op, D: 1, A: 2, B: 3, Then: 4}
+		if is := op >= api.Add && op <= api.Less; shape.Reckons(n, api.Term{Op: op, A: 2, B: 3}) != is {
+			t.Errorf("%v: not %v", n, is)
+		}
+		for _, u := range []api.Term{{Op: op + 1, A: 2, B: 3}, {Op: op, A: 3, B: 3}, {Op: op, A: 2, B: 2}, {Op: op, A: 3, B: 2}, {}} {
+			if shape.Reckons(n, u) {
+				t.Errorf("%v reckons %v", n, u)
+			}
+		}
+	}
+}
+
+func TestKeepsUnlessItSetsOneOfBoth(t *testing.T) {
+	for op := -2; op < 16; op++ {
+		for d := range 4 {
+			n := api.Node{Op: op, D: d}
+			is := op < api.Set || op > api.In || d != 0 && d != 2
+			if shape.Keeps(n, api.Term{Op: api.Add, A: 0, B: 2}) != is || shape.Keeps(n, api.Term{Op: api.Mul, A: 2, B: 0}) != is {
+				t.Errorf("%v: not %v", n, is)
+			}
+		}
+	}
+}
